@@ -1,0 +1,86 @@
+package tests
+
+import (
+	"go/ast"
+	"go/parser"
+	"go/token"
+	"path/filepath"
+	"strings"
+	"testing"
+)
+
+// allowedImports is the list of the language page.
+const allowedImports = " bytes cmp container/heap errors iter maps math math/bits slices sort strconv strings sync sync/atomic unicode unicode/utf8 "
+
+// longestFunction is what the language page means by some 60 lines.
+const longestFunction = 60
+
+func parsedFile(t *testing.T, files *token.FileSet, path string) *ast.File {
+	t.Helper()
+	f, err := parser.ParseFile(files, path, nil, parser.ParseComments)
+	if err != nil {
+		t.Fatal(err)
+	}
+	return f
+}
+
+// usesIn counts how often a name is used in a file.
+func usesIn(f *ast.File, name string) int {
+	count := 0
+	ast.Inspect(f, func(n ast.Node) bool {
+		if id, ok := n.(*ast.Ident); ok && id.Name == name {
+			count++
+		}
+		return true
+	})
+	return count
+}
+
+// conversionsIn counts the calls of a name: of a type's, its conversions.
+func conversionsIn(f *ast.File, name string) int {
+	count := 0
+	ast.Inspect(f, func(n ast.Node) bool {
+		if call, ok := n.(*ast.CallExpr); ok {
+			if id, ok := call.Fun.(*ast.Ident); ok && id.Name == name {
+				count++
+			}
+		}
+		return true
+	})
+	return count
+}
+
+func TestWaysOfMotion(t *testing.T) {
+	f := parsedFile(t, token.NewFileSet(), "../impl/l01_motion.go")
+	if usesIn(f, "iota") == 0 {
+		t.Error("no constants with iota")
+	}
+	if conversionsIn(f, "uint64") == 0 || conversionsIn(f, "int64") == 0 {
+		t.Error("sizes are not unsigned by conversions")
+	}
+}
+
+func TestProgramKeepsToItsLanguage(t *testing.T) {
+	paths, err := filepath.Glob("../impl/*.go")
+	if err != nil || len(paths) == 0 {
+		t.Fatal("no program", err)
+	}
+	files := token.NewFileSet()
+	for _, path := range paths {
+		f := parsedFile(t, files, path)
+		for _, i := range f.Imports {
+			if !strings.Contains(allowedImports, " "+strings.Trim(i.Path.Value, `"`)+" ") {
+				t.Errorf("%s imports %s", path, i.Path.Value)
+			}
+		}
+		for _, d := range f.Decls {
+			fn, ok := d.(*ast.FuncDecl)
+			if !ok {
+				continue
+			}
+			if lines := files.Position(fn.End()).Line - files.Position(fn.Pos()).Line + 1; lines > longestFunction {
+				t.Errorf("%s: %s has %d lines", path, fn.Name.Name, lines)
+			}
+		}
+	}
+}
