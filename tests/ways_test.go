@@ -60,6 +60,64 @@ func TestWaysOfMotion(t *testing.T) {
 	}
 }
 
+// comparesOwn tells whether a function holds one of its arguments of that type
+// whole against another value.
+func comparesOwn(fn *ast.FuncDecl, typeName string) bool {
+	own := map[string]bool{}
+	for _, p := range fn.Type.Params.List {
+		if id, ok := p.Type.(*ast.Ident); ok && id.Name == typeName {
+			for _, name := range p.Names {
+				own[name.Name] = true
+			}
+		}
+	}
+	found := false
+	ast.Inspect(fn, func(n ast.Node) bool {
+		if b, ok := n.(*ast.BinaryExpr); ok && (b.Op == token.EQL || b.Op == token.NEQ) {
+			if id, ok := b.X.(*ast.Ident); ok && own[id.Name] {
+				found = true
+			}
+		}
+		return true
+	})
+	return found
+}
+
+// rangesOverField tells whether a function ranges over what is reckoned from
+// that number of a struct.
+func rangesOverField(fn *ast.FuncDecl, field string) bool {
+	found := false
+	ast.Inspect(fn, func(n ast.Node) bool {
+		if r, ok := n.(*ast.RangeStmt); ok {
+			ast.Inspect(r.X, func(n ast.Node) bool {
+				if s, ok := n.(*ast.SelectorExpr); ok && s.Sel.Name == field {
+					found = true
+				}
+				return true
+			})
+		}
+		return true
+	})
+	return found
+}
+
+func TestWaysOfTheHouse(t *testing.T) {
+	f := parsedFile(t, token.NewFileSet(), "../impl/l02_plan.go")
+	isCompared, isRanged := false, false
+	for _, d := range f.Decls {
+		if fn, ok := d.(*ast.FuncDecl); ok {
+			isCompared = isCompared || comparesOwn(fn, "House")
+			isRanged = isRanged || rangesOverField(fn, "Floors")
+		}
+	}
+	if !isCompared {
+		t.Error("no house is compared")
+	}
+	if !isRanged {
+		t.Error("floors are not ranged over as integers")
+	}
+}
+
 func TestProgramKeepsToItsLanguage(t *testing.T) {
 	paths, err := filepath.Glob("../impl/*.go")
 	if err != nil || len(paths) == 0 {
