@@ -375,8 +375,13 @@ func TestRangesOfMotion(t *testing.T) {
 // Every call of chapter 1 at every triple of wide numbers: it answers, and the
 // same again when other calls stood between.
 func TestMotionAnswersEverywhere(t *testing.T) {
-	first := answersEverywhere()
-	second := answersEverywhere()
+	sameTwice(t, answersEverywhere)
+}
+
+// sameTwice asks for all answers, and for all of them once more.
+func sameTwice[T comparable](t *testing.T, answers func() []T) {
+	t.Helper()
+	first, second := answers(), answers()
 	for i := range first {
 		if first[i] != second[i] {
 			t.Fatalf("answers %d: %+v, then %+v", i, first[i], second[i])

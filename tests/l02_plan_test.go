@@ -449,11 +449,5 @@ func houseAnswersEverywhere() []houseAnswers {
 // Every call of chapter 2 answers whatever it is given, and the same again when
 // other calls stood between.
 func TestHouseAnswersEverywhere(t *testing.T) {
-	first := houseAnswersEverywhere()
-	second := houseAnswersEverywhere()
-	for i := range first {
-		if first[i] != second[i] {
-			t.Fatalf("answers %d: %+v, then %+v", i, first[i], second[i])
-		}
-	}
+	sameTwice(t, houseAnswersEverywhere)
 }

@@ -118,6 +118,51 @@ func TestWaysOfTheHouse(t *testing.T) {
 	}
 }
 
+// interfacesIn are the names of a file's interfaces that have methods.
+func interfacesIn(f *ast.File) map[string]bool {
+	names := map[string]bool{}
+	ast.Inspect(f, func(n ast.Node) bool {
+		if spec, ok := n.(*ast.TypeSpec); ok {
+			if face, ok := spec.Type.(*ast.InterfaceType); ok && len(face.Methods.List) > 0 {
+				names[spec.Name.Name] = true
+			}
+		}
+		return true
+	})
+	return names
+}
+
+// switchesOverType tells whether a function has an argument of one of these
+// types, and a type switch.
+func switchesOverType(fn *ast.FuncDecl, typeNames map[string]bool) bool {
+	isGiven, isSwitched := false, false
+	for _, p := range fn.Type.Params.List {
+		if id, ok := p.Type.(*ast.Ident); ok && typeNames[id.Name] {
+			isGiven = true
+		}
+	}
+	ast.Inspect(fn, func(n ast.Node) bool {
+		if _, ok := n.(*ast.TypeSwitchStmt); ok {
+			isSwitched = true
+		}
+		return true
+	})
+	return isGiven && isSwitched
+}
+
+func TestWaysOfCars(t *testing.T) {
+	f := parsedFile(t, token.NewFileSet(), "../impl/l03_plant.go")
+	interfaces, isSwitched := interfacesIn(f), false
+	for _, d := range f.Decls {
+		if fn, ok := d.(*ast.FuncDecl); ok {
+			isSwitched = isSwitched || !fn.Name.IsExported() && switchesOverType(fn, interfaces)
+		}
+	}
+	if !isSwitched {
+		t.Error("what a tick does is no type switch over commands behind an interface")
+	}
+}
+
 func TestProgramKeepsToItsLanguage(t *testing.T) {
 	paths, err := filepath.Glob("../impl/*.go")
 	if err != nil || len(paths) == 0 {
