@@ -692,8 +692,9 @@ func plantAnswersAt(h impl.House, a, b, n int64) plantAnswers {
 	}
 }
 
-func plantAnswersEverywhere() []plantAnswers {
-	var list []plantAnswers
+// housesOfAllKinds are right ones, ones with each fault, and ones with a number
+// far out of its bounds.
+func housesOfAllKinds() []impl.House {
 	houses := []impl.House{exampleHouse(), greatestHouse(), nearHouse(), outHouse(), {}}
 	for _, f := range houseFields() {
 		for _, n := range []int64{least, -1, 0, greatest} {
@@ -702,8 +703,13 @@ func plantAnswersEverywhere() []plantAnswers {
 			houses = append(houses, h)
 		}
 	}
+	return houses
+}
+
+func plantAnswersEverywhere() []plantAnswers {
+	var list []plantAnswers
 	numbers := []int64{least, least + 1, -big1, -fast, -51, -50, -1, 0, 1, 2, 50, 51, fast, big1, greatest - 1, greatest}
-	for _, h := range houses {
+	for _, h := range housesOfAllKinds() {
 		for _, a := range numbers {
 			for _, b := range numbers {
 				for _, n := range numbers {

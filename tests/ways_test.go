@@ -163,6 +163,59 @@ func TestWaysOfCars(t *testing.T) {
 	}
 }
 
+// closuresIn are the names that a function gives to functions that it writes out.
+func closuresIn(fn *ast.FuncDecl) map[string]bool {
+	names := map[string]bool{}
+	ast.Inspect(fn, func(n ast.Node) bool {
+		if set, ok := n.(*ast.AssignStmt); ok && len(set.Lhs) == 1 && len(set.Rhs) == 1 {
+			_, isWritten := set.Rhs[0].(*ast.FuncLit)
+			if id, ok := set.Lhs[0].(*ast.Ident); ok && isWritten {
+				names[id.Name] = true
+			}
+		}
+		return true
+	})
+	return names
+}
+
+// callsOneOf tells whether an expression is a call of one of these names.
+func callsOneOf(e ast.Expr, names map[string]bool) bool {
+	call, ok := e.(*ast.CallExpr)
+	if !ok {
+		return false
+	}
+	id, ok := call.Fun.(*ast.Ident)
+	return ok && names[id.Name]
+}
+
+// turnsClosureRound tells whether a function answers what a closure of its own
+// tells, and in another place that with its sign turned.
+func turnsClosureRound(fn *ast.FuncDecl) bool {
+	closures, isTold, isTurned := closuresIn(fn), false, false
+	ast.Inspect(fn, func(n ast.Node) bool {
+		if answer, ok := n.(*ast.ReturnStmt); ok && len(answer.Results) == 1 {
+			minus, ok := answer.Results[0].(*ast.UnaryExpr)
+			isTold = isTold || callsOneOf(answer.Results[0], closures)
+			isTurned = isTurned || ok && minus.Op == token.SUB && callsOneOf(minus.X, closures)
+		}
+		return true
+	})
+	return isTold && isTurned
+}
+
+func TestWaysOfGoing(t *testing.T) {
+	f := parsedFile(t, token.NewFileSet(), "../impl/l04_profile.go")
+	isTurned := false
+	for _, d := range f.Decls {
+		if fn, ok := d.(*ast.FuncDecl); ok {
+			isTurned = isTurned || turnsClosureRound(fn)
+		}
+	}
+	if !isTurned {
+		t.Error("the upward push is no closure that a down one turns round")
+	}
+}
+
 func TestProgramKeepsToItsLanguage(t *testing.T) {
 	paths, err := filepath.Glob("../impl/*.go")
 	if err != nil || len(paths) == 0 {
