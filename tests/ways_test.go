@@ -216,6 +216,72 @@ func TestWaysOfGoing(t *testing.T) {
 	}
 }
 
+// arraysIn are the names that a function gives to arrays of that length that it
+// writes out.
+func arraysIn(fn *ast.FuncDecl, length string) map[string]bool {
+	names := map[string]bool{}
+	ast.Inspect(fn, func(n ast.Node) bool {
+		set, ok := n.(*ast.AssignStmt)
+		if !ok || len(set.Lhs) != 1 || len(set.Rhs) != 1 {
+			return true
+		}
+		if list, ok := set.Rhs[0].(*ast.CompositeLit); ok {
+			kind, isList := list.Type.(*ast.ArrayType)
+			if id, ok := set.Lhs[0].(*ast.Ident); ok && isList && isNumber(kind.Len, length) {
+				names[id.Name] = true
+			}
+		}
+		return true
+	})
+	return names
+}
+
+func isNumber(e ast.Expr, digits string) bool {
+	number, ok := e.(*ast.BasicLit)
+	return ok && number.Value == digits
+}
+
+// leavesByLabel tells whether a function ranges over one of these names, and
+// leaves that by the label that stands there.
+func leavesByLabel(fn *ast.FuncDecl, names map[string]bool) bool {
+	found := false
+	ast.Inspect(fn, func(n ast.Node) bool {
+		labeled, ok := n.(*ast.LabeledStmt)
+		if !ok {
+			return true
+		}
+		over, ok := labeled.Stmt.(*ast.RangeStmt)
+		if !ok {
+			return true
+		}
+		if id, ok := over.X.(*ast.Ident); !ok || !names[id.Name] {
+			return true
+		}
+		ast.Inspect(over.Body, func(n ast.Node) bool {
+			leave, ok := n.(*ast.BranchStmt)
+			if ok && leave.Tok == token.BREAK && leave.Label != nil && leave.Label.Name == labeled.Label.Name {
+				found = true
+			}
+			return true
+		})
+		return true
+	})
+	return found
+}
+
+func TestWaysOfTheGuard(t *testing.T) {
+	f := parsedFile(t, token.NewFileSet(), "../impl/l05_guard.go")
+	isLeft := false
+	for _, d := range f.Decls {
+		if fn, ok := d.(*ast.FuncDecl); ok {
+			isLeft = isLeft || leavesByLabel(fn, arraysIn(fn, "4"))
+		}
+	}
+	if !isLeft {
+		t.Error("no array of four pairs is ranged over, and left by a label")
+	}
+}
+
 func TestProgramKeepsToItsLanguage(t *testing.T) {
 	paths, err := filepath.Glob("../impl/*.go")
 	if err != nil || len(paths) == 0 {
