@@ -282,6 +282,51 @@ func TestWaysOfTheGuard(t *testing.T) {
 	}
 }
 
+// mapsBy are the names of a function's arguments that are maps by that type.
+func mapsBy(fn *ast.FuncDecl, typeName string) map[string]bool {
+	names := map[string]bool{}
+	for _, p := range fn.Type.Params.List {
+		kind, ok := p.Type.(*ast.MapType)
+		if !ok {
+			continue
+		}
+		if id, ok := kind.Key.(*ast.Ident); ok && id.Name == typeName {
+			for _, name := range p.Names {
+				names[name.Name] = true
+			}
+		}
+	}
+	return names
+}
+
+// deletesFrom tells whether a function deletes something from one of these.
+func deletesFrom(fn *ast.FuncDecl, names map[string]bool) bool {
+	found := false
+	ast.Inspect(fn, func(n ast.Node) bool {
+		call, ok := n.(*ast.CallExpr)
+		if !ok || !callsOneOf(call, map[string]bool{"delete": true}) {
+			return true
+		}
+		id, ok := call.Args[0].(*ast.Ident)
+		found = found || ok && names[id.Name]
+		return true
+	})
+	return found
+}
+
+func TestWaysOfSpans(t *testing.T) {
+	f := parsedFile(t, token.NewFileSet(), "../impl/l06_spans.go")
+	isDeleted := false
+	for _, d := range f.Decls {
+		if fn, ok := d.(*ast.FuncDecl); ok {
+			isDeleted = isDeleted || deletesFrom(fn, mapsBy(fn, "Span"))
+		}
+	}
+	if !isDeleted {
+		t.Error("no span is deleted from a map by spans")
+	}
+}
+
 func TestProgramKeepsToItsLanguage(t *testing.T) {
 	paths, err := filepath.Glob("../impl/*.go")
 	if err != nil || len(paths) == 0 {
