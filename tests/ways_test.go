@@ -36,8 +36,8 @@ func usesIn(f *ast.File, name string) int {
 	return count
 }
 
-// conversionsIn counts the calls of a name: of a type's, its conversions.
-func conversionsIn(f *ast.File, name string) int {
+// callsIn counts the calls of a name: of a type's, its conversions.
+func callsIn(f *ast.File, name string) int {
 	count := 0
 	ast.Inspect(f, func(n ast.Node) bool {
 		if call, ok := n.(*ast.CallExpr); ok {
@@ -55,7 +55,7 @@ func TestWaysOfMotion(t *testing.T) {
 	if usesIn(f, "iota") == 0 {
 		t.Error("no constants with iota")
 	}
-	if conversionsIn(f, "uint64") == 0 || conversionsIn(f, "int64") == 0 {
+	if callsIn(f, "uint64") == 0 || callsIn(f, "int64") == 0 {
 		t.Error("sizes are not unsigned by conversions")
 	}
 }
@@ -324,6 +324,68 @@ func TestWaysOfSpans(t *testing.T) {
 	}
 	if !isDeleted {
 		t.Error("no span is deleted from a map by spans")
+	}
+}
+
+// tablesIn are the names that a function gives to tables of function values that
+// it writes out.
+func tablesIn(fn *ast.FuncDecl) map[string]bool {
+	names := map[string]bool{}
+	ast.Inspect(fn, func(n ast.Node) bool {
+		set, ok := n.(*ast.AssignStmt)
+		if !ok || len(set.Lhs) != 1 || len(set.Rhs) != 1 {
+			return true
+		}
+		if list, ok := set.Rhs[0].(*ast.CompositeLit); ok {
+			kind, isList := list.Type.(*ast.ArrayType)
+			if id, ok := set.Lhs[0].(*ast.Ident); ok && isList && isFunction(kind.Elt) {
+				names[id.Name] = true
+			}
+		}
+		return true
+	})
+	return names
+}
+
+func isFunction(e ast.Expr) bool {
+	_, ok := e.(*ast.FuncType)
+	return ok
+}
+
+// callsByState tells whether a function calls what stands in one of these tables
+// at the State of somebody.
+func callsByState(fn *ast.FuncDecl, names map[string]bool) bool {
+	found := false
+	ast.Inspect(fn, func(n ast.Node) bool {
+		call, ok := n.(*ast.CallExpr)
+		if !ok {
+			return true
+		}
+		place, ok := call.Fun.(*ast.IndexExpr)
+		if !ok {
+			return true
+		}
+		table, isNamed := place.X.(*ast.Ident)
+		field, isField := place.Index.(*ast.SelectorExpr)
+		found = found || isNamed && names[table.Name] && isField && field.Sel.Name == "State"
+		return true
+	})
+	return found
+}
+
+func TestWaysOfPassengers(t *testing.T) {
+	f := parsedFile(t, token.NewFileSet(), "../impl/l07_ledger.go")
+	isTold := false
+	for _, d := range f.Decls {
+		if fn, ok := d.(*ast.FuncDecl); ok {
+			isTold = isTold || callsByState(fn, tablesIn(fn))
+		}
+	}
+	if !isTold {
+		t.Error("no state is told by function values in a table in a function")
+	}
+	if callsIn(f, "clear") == 0 || callsIn(f, "copy") == 0 {
+		t.Error("lists are not cleared and copied")
 	}
 }
 
