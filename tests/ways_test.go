@@ -389,6 +389,102 @@ func TestWaysOfPassengers(t *testing.T) {
 	}
 }
 
+// embedsIn are the types of a file that embed another of its own types, by name,
+// as a value or by a pointer.
+func embedsIn(f *ast.File) map[string]string {
+	embeds := map[string]string{}
+	ast.Inspect(f, func(n ast.Node) bool {
+		spec, ok := n.(*ast.TypeSpec)
+		if !ok {
+			return true
+		}
+		if record, ok := spec.Type.(*ast.StructType); ok {
+			for _, field := range record.Fields.List {
+				if len(field.Names) == 0 {
+					embeds[spec.Name.Name] = nameOf(field.Type)
+				}
+			}
+		}
+		return true
+	})
+	return embeds
+}
+
+// nameOf is the name of a type, or of what a pointer points to.
+func nameOf(e ast.Expr) string {
+	if pointer, ok := e.(*ast.StarExpr); ok {
+		e = pointer.X
+	}
+	if id, ok := e.(*ast.Ident); ok {
+		return id.Name
+	}
+	return ""
+}
+
+// methodsIn are the names of a file's methods, by the type that has them.
+func methodsIn(f *ast.File) map[string]map[string]bool {
+	methods := map[string]map[string]bool{}
+	for _, d := range f.Decls {
+		if fn, ok := d.(*ast.FuncDecl); ok && fn.Recv != nil {
+			owner := nameOf(fn.Recv.List[0].Type)
+			if methods[owner] == nil {
+				methods[owner] = map[string]bool{}
+			}
+			methods[owner][fn.Name.Name] = true
+		}
+	}
+	return methods
+}
+
+// callsPromoted tells whether a method calls, on what it is a method of, one of
+// the methods of what that embeds.
+func callsPromoted(fn *ast.FuncDecl, embeds map[string]string, methods map[string]map[string]bool) bool {
+	if fn.Recv == nil || len(fn.Recv.List[0].Names) == 0 {
+		return false
+	}
+	owner, own := nameOf(fn.Recv.List[0].Type), fn.Recv.List[0].Names[0].Name
+	found := false
+	ast.Inspect(fn, func(n ast.Node) bool {
+		call, ok := n.(*ast.CallExpr)
+		if !ok {
+			return true
+		}
+		if s, ok := call.Fun.(*ast.SelectorExpr); ok && nameOf(s.X) == own {
+			found = found || methods[embeds[owner]][s.Sel.Name] && !methods[owner][s.Sel.Name]
+		}
+		return true
+	})
+	return found
+}
+
+func jumps(fn *ast.FuncDecl) bool {
+	found := false
+	ast.Inspect(fn, func(n ast.Node) bool {
+		leave, ok := n.(*ast.BranchStmt)
+		found = found || ok && leave.Tok == token.GOTO
+		return true
+	})
+	return found
+}
+
+func TestWaysOfTheGroup(t *testing.T) {
+	f := parsedFile(t, token.NewFileSet(), "../impl/l08_group.go")
+	embeds, methods := embedsIn(f), methodsIn(f)
+	isPromoted, isMachine := false, false
+	for _, d := range f.Decls {
+		if fn, ok := d.(*ast.FuncDecl); ok {
+			isPromoted = isPromoted || callsPromoted(fn, embeds, methods)
+			isMachine = isMachine || jumps(fn) && fn.Recv != nil
+		}
+	}
+	if !isPromoted {
+		t.Error("no car embeds what it shares, and calls a method of it")
+	}
+	if !isMachine {
+		t.Error("a turn is no machine with goto")
+	}
+}
+
 func TestProgramKeepsToItsLanguage(t *testing.T) {
 	paths, err := filepath.Glob("../impl/*.go")
 	if err != nil || len(paths) == 0 {
