@@ -485,6 +485,74 @@ func TestWaysOfTheGroup(t *testing.T) {
 	}
 }
 
+// panicsItself tells whether a function panics where it stands.
+func panicsItself(fn *ast.FuncDecl) bool {
+	found := false
+	ast.Inspect(fn, func(n ast.Node) bool {
+		call, ok := n.(*ast.CallExpr)
+		found = found || ok && callsOneOf(call, map[string]bool{"panic": true})
+		return true
+	})
+	return found
+}
+
+// recoversItself tells whether a function defers one that it writes out, and in
+// which it recovers.
+func recoversItself(fn *ast.FuncDecl) bool {
+	found := false
+	ast.Inspect(fn, func(n ast.Node) bool {
+		later, ok := n.(*ast.DeferStmt)
+		if !ok {
+			return true
+		}
+		if _, isWritten := later.Call.Fun.(*ast.FuncLit); !isWritten {
+			return true
+		}
+		ast.Inspect(later.Call.Fun, func(n ast.Node) bool {
+			call, ok := n.(*ast.CallExpr)
+			found = found || ok && callsOneOf(call, map[string]bool{"recover": true})
+			return true
+		})
+		return true
+	})
+	return found
+}
+
+// wordsFallThrough tells whether a function has a case of words that falls
+// through to the next one.
+func wordsFallThrough(fn *ast.FuncDecl) bool {
+	found := false
+	ast.Inspect(fn, func(n ast.Node) bool {
+		words, ok := n.(*ast.CaseClause)
+		if !ok || len(words.List) == 0 || len(words.Body) == 0 {
+			return true
+		}
+		word, isWord := words.List[0].(*ast.BasicLit)
+		last, isLeft := words.Body[len(words.Body)-1].(*ast.BranchStmt)
+		found = found || isWord && word.Kind == token.STRING && isLeft && last.Tok == token.FALLTHROUGH
+		return true
+	})
+	return found
+}
+
+func TestWaysOfScripts(t *testing.T) {
+	f := parsedFile(t, token.NewFileSet(), "../impl/l09_script.go")
+	isThrown, isCaught, isFalling := false, false, false
+	for _, d := range f.Decls {
+		if fn, ok := d.(*ast.FuncDecl); ok {
+			isThrown = isThrown || panicsItself(fn) && !fn.Name.IsExported()
+			isCaught = isCaught || recoversItself(fn) && fn.Name.IsExported()
+			isFalling = isFalling || wordsFallThrough(fn)
+		}
+	}
+	if !isThrown || !isCaught {
+		t.Error("a line that cannot be read is no panic, recovered at the face")
+	}
+	if !isFalling {
+		t.Error("no words fall through")
+	}
+}
+
 func TestProgramKeepsToItsLanguage(t *testing.T) {
 	paths, err := filepath.Glob("../impl/*.go")
 	if err != nil || len(paths) == 0 {
