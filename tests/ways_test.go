@@ -553,6 +553,91 @@ func TestWaysOfScripts(t *testing.T) {
 	}
 }
 
+// channelsIn are the names that a function gives to channels that it makes.
+func channelsIn(fn *ast.FuncDecl) map[string]bool {
+	names := map[string]bool{}
+	ast.Inspect(fn, func(n ast.Node) bool {
+		made, ok := n.(*ast.AssignStmt)
+		if !ok || len(made.Lhs) != len(made.Rhs) {
+			return true
+		}
+		for i, value := range made.Rhs {
+			call, ok := value.(*ast.CallExpr)
+			if !ok || !callsOneOf(call, map[string]bool{"make": true}) {
+				continue
+			}
+			if _, isChannel := call.Args[0].(*ast.ChanType); isChannel {
+				names[nameOf(made.Lhs[i])] = true
+			}
+		}
+		return true
+	})
+	return names
+}
+
+// startsAndRanges tells whether a function starts another one and ranges over a
+// channel that it made.
+func startsAndRanges(fn *ast.FuncDecl) bool {
+	channels := channelsIn(fn)
+	isStarted, isRanged := false, false
+	ast.Inspect(fn, func(n ast.Node) bool {
+		switch x := n.(type) {
+		case *ast.GoStmt:
+			isStarted = true
+		case *ast.RangeStmt:
+			isRanged = isRanged || channels[nameOf(x.X)]
+		}
+		return true
+	})
+	return isStarted && isRanged
+}
+
+// closesLast tells whether the last thing that a function does is to close the
+// channel over which it sends.
+func closesLast(fn *ast.FuncDecl) bool {
+	sent := map[string]bool{}
+	ast.Inspect(fn, func(n ast.Node) bool {
+		if send, ok := n.(*ast.SendStmt); ok {
+			sent[nameOf(send.Chan)] = true
+		}
+		return true
+	})
+	if len(fn.Body.List) == 0 {
+		return false
+	}
+	last, ok := fn.Body.List[len(fn.Body.List)-1].(*ast.ExprStmt)
+	if !ok || !callsOneOf(last.X, map[string]bool{"close": true}) {
+		return false
+	}
+	return sent[nameOf(last.X.(*ast.CallExpr).Args[0])]
+}
+
+func TestWaysOfWhatWasSeen(t *testing.T) {
+	f := parsedFile(t, token.NewFileSet(), "../impl/l10_trace.go")
+	isHandedOver, isAsked := false, false
+	for _, d := range f.Decls {
+		fn, ok := d.(*ast.FuncDecl)
+		if !ok {
+			continue
+		}
+		isHandedOver = isHandedOver || closesLast(fn)
+		if startsAndRanges(fn) != (fn.Name.Name == "TraceGroup") {
+			t.Errorf("%s: TraceGroup alone hands its events over a channel", fn.Name.Name)
+		}
+		ast.Inspect(fn, func(n ast.Node) bool {
+			s, ok := n.(*ast.SelectorExpr)
+			isAsked = isAsked || ok && nameOf(s.X) == "errors" && s.Sel.Name == "As"
+			return true
+		})
+	}
+	if !isHandedOver {
+		t.Error("no events are handed over a channel until it is closed")
+	}
+	if !isAsked {
+		t.Error("no error is asked by errors.As")
+	}
+}
+
 func TestProgramKeepsToItsLanguage(t *testing.T) {
 	paths, err := filepath.Glob("../impl/*.go")
 	if err != nil || len(paths) == 0 {
