@@ -638,6 +638,70 @@ func TestWaysOfWhatWasSeen(t *testing.T) {
 	}
 }
 
+// hasOperators tells whether all of these stand in a function.
+func hasOperators(fn *ast.FuncDecl, wanted ...token.Token) bool {
+	found := map[token.Token]bool{}
+	ast.Inspect(fn, func(n ast.Node) bool {
+		if b, ok := n.(*ast.BinaryExpr); ok {
+			found[b.Op] = true
+		}
+		return true
+	})
+	for _, op := range wanted {
+		if !found[op] {
+			return false
+		}
+	}
+	return true
+}
+
+// hasType tells whether that type is among the arguments or the answers.
+func hasType(list *ast.FieldList, typeName string) bool {
+	if list == nil {
+		return false
+	}
+	for _, field := range list.List {
+		if nameOf(field.Type) == typeName {
+			return true
+		}
+	}
+	return false
+}
+
+// wrapsIn16 tells whether a function takes what is left of a difference of
+// numbers of 16 bits.
+func wrapsIn16(fn *ast.FuncDecl) bool {
+	found := false
+	ast.Inspect(fn, func(n ast.Node) bool {
+		call, ok := n.(*ast.CallExpr)
+		if !ok || !callsOneOf(call, map[string]bool{"int16": true, "uint16": true}) {
+			return true
+		}
+		difference, ok := call.Args[0].(*ast.BinaryExpr)
+		found = found || ok && difference.Op == token.SUB
+		return true
+	})
+	return found && hasType(fn.Type.Params, "uint16")
+}
+
+func TestWaysOfSensors(t *testing.T) {
+	f := parsedFile(t, token.NewFileSet(), "../impl/l11_sense.go")
+	isWrapped, isPacked, isUnpacked := false, false, false
+	for _, d := range f.Decls {
+		if fn, ok := d.(*ast.FuncDecl); ok {
+			isWrapped = isWrapped || wrapsIn16(fn)
+			isPacked = isPacked || hasType(fn.Type.Params, "Reading") && hasOperators(fn, token.SHL, token.AND)
+			isUnpacked = isUnpacked || hasType(fn.Type.Results, "Reading") && hasOperators(fn, token.SHR, token.AND)
+		}
+	}
+	if !isWrapped || callsIn(f, "uint16") == 0 {
+		t.Error("counts do not wrap as numbers of 16 bits")
+	}
+	if !isPacked || !isUnpacked {
+		t.Error("readings are not shifted and masked")
+	}
+}
+
 func TestProgramKeepsToItsLanguage(t *testing.T) {
 	paths, err := filepath.Glob("../impl/*.go")
 	if err != nil || len(paths) == 0 {
