@@ -702,6 +702,93 @@ func TestWaysOfSensors(t *testing.T) {
 	}
 }
 
+// arrayTypesIn are the names of a file's types that are arrays.
+func arrayTypesIn(f *ast.File) map[string]bool {
+	names := map[string]bool{}
+	ast.Inspect(f, func(n ast.Node) bool {
+		if spec, ok := n.(*ast.TypeSpec); ok {
+			kind, isList := spec.Type.(*ast.ArrayType)
+			names[spec.Name.Name] = isList && kind.Len != nil
+		}
+		return true
+	})
+	return names
+}
+
+// answersMapBy tells whether a function answers a map by one of these types.
+func answersMapBy(fn *ast.FuncDecl, typeNames map[string]bool) bool {
+	if fn.Type.Results == nil {
+		return false
+	}
+	for _, answer := range fn.Type.Results.List {
+		if kind, ok := answer.Type.(*ast.MapType); ok && typeNames[nameOf(kind.Key)] {
+			return true
+		}
+	}
+	return false
+}
+
+// answersIterator tells whether a function answers an iter.Seq.
+func answersIterator(fn *ast.FuncDecl) bool {
+	if fn.Type.Results == nil {
+		return false
+	}
+	for _, answer := range fn.Type.Results.List {
+		of, ok := answer.Type.(*ast.IndexExpr)
+		if !ok {
+			continue
+		}
+		if s, ok := of.X.(*ast.SelectorExpr); ok && nameOf(s.X) == "iter" && s.Sel.Name == "Seq" {
+			return true
+		}
+	}
+	return false
+}
+
+// rangesOverCalls tells whether a function ranges over what a call of one of
+// these functions or methods answers.
+func rangesOverCalls(fn *ast.FuncDecl, names map[string]bool) bool {
+	found := false
+	ast.Inspect(fn, func(n ast.Node) bool {
+		over, ok := n.(*ast.RangeStmt)
+		if !ok {
+			return true
+		}
+		call, ok := over.X.(*ast.CallExpr)
+		if !ok {
+			return true
+		}
+		method, isMethod := call.Fun.(*ast.SelectorExpr)
+		found = found || callsOneOf(call, names) || isMethod && names[method.Sel.Name]
+		return true
+	})
+	return found
+}
+
+func TestWaysOfZones(t *testing.T) {
+	f := parsedFile(t, token.NewFileSet(), "../impl/l12_zones.go")
+	maps, iterators, arrays := map[string]bool{}, map[string]bool{}, arrayTypesIn(f)
+	for _, d := range f.Decls {
+		if fn, ok := d.(*ast.FuncDecl); ok {
+			maps[fn.Name.Name] = answersMapBy(fn, arrays)
+			iterators[fn.Name.Name] = answersIterator(fn)
+		}
+	}
+	isAsked, isRanged := false, false
+	for _, d := range f.Decls {
+		if fn, ok := d.(*ast.FuncDecl); ok {
+			isAsked = isAsked || rangesOverCalls(fn, maps)
+			isRanged = isRanged || rangesOverCalls(fn, iterators)
+		}
+	}
+	if !isAsked {
+		t.Error("masks are no arrays of bits as keys of a map")
+	}
+	if !isRanged {
+		t.Error("floors are no iterator that is ranged over")
+	}
+}
+
 func TestProgramKeepsToItsLanguage(t *testing.T) {
 	paths, err := filepath.Glob("../impl/*.go")
 	if err != nil || len(paths) == 0 {
