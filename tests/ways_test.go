@@ -789,6 +789,89 @@ func TestWaysOfZones(t *testing.T) {
 	}
 }
 
+// defersCallOf tells whether a function defers one that it writes out, and in
+// which it calls one of these names.
+func defersCallOf(fn *ast.FuncDecl, names map[string]bool) bool {
+	found := false
+	ast.Inspect(fn, func(n ast.Node) bool {
+		later, ok := n.(*ast.DeferStmt)
+		if !ok {
+			return true
+		}
+		written, ok := later.Call.Fun.(*ast.FuncLit)
+		if !ok {
+			return true
+		}
+		ast.Inspect(written, func(n ast.Node) bool {
+			call, ok := n.(*ast.CallExpr)
+			found = found || ok && callsOneOf(call, names)
+			return true
+		})
+		return true
+	})
+	return found
+}
+
+// answersMethodValue tells whether a method answers another one of what it is a
+// method of, without calling it.
+func answersMethodValue(fn *ast.FuncDecl, methods map[string]map[string]bool) bool {
+	if fn.Recv == nil || len(fn.Recv.List[0].Names) == 0 {
+		return false
+	}
+	owner, own := nameOf(fn.Recv.List[0].Type), fn.Recv.List[0].Names[0].Name
+	found := false
+	ast.Inspect(fn, func(n ast.Node) bool {
+		if answer, ok := n.(*ast.ReturnStmt); ok && len(answer.Results) == 1 {
+			s, ok := answer.Results[0].(*ast.SelectorExpr)
+			found = found || ok && nameOf(s.X) == own && methods[owner][s.Sel.Name]
+		}
+		return true
+	})
+	return found
+}
+
+// answersOf are the names that a function gives to what methods of these names
+// answer.
+func answersOf(fn *ast.FuncDecl, names map[string]bool) map[string]bool {
+	given := map[string]bool{}
+	ast.Inspect(fn, func(n ast.Node) bool {
+		set, ok := n.(*ast.AssignStmt)
+		if !ok || len(set.Lhs) != len(set.Rhs) {
+			return true
+		}
+		for i, value := range set.Rhs {
+			call, ok := value.(*ast.CallExpr)
+			if !ok {
+				continue
+			}
+			if method, ok := call.Fun.(*ast.SelectorExpr); ok && names[method.Sel.Name] {
+				given[nameOf(set.Lhs[i])] = true
+			}
+		}
+		return true
+	})
+	return given
+}
+
+func TestWaysOfEnergy(t *testing.T) {
+	f := parsedFile(t, token.NewFileSet(), "../impl/l13_energy.go")
+	methods, tellers := methodsIn(f), map[string]bool{}
+	for _, d := range f.Decls {
+		if fn, ok := d.(*ast.FuncDecl); ok && answersMethodValue(fn, methods) {
+			tellers[fn.Name.Name] = true
+		}
+	}
+	isKept := false
+	for _, d := range f.Decls {
+		if fn, ok := d.(*ast.FuncDecl); ok {
+			isKept = isKept || defersCallOf(fn, answersOf(fn, tellers))
+		}
+	}
+	if !isKept {
+		t.Error("no deferred function keeps a book by a method value")
+	}
+}
+
 func TestProgramKeepsToItsLanguage(t *testing.T) {
 	paths, err := filepath.Glob("../impl/*.go")
 	if err != nil || len(paths) == 0 {
