@@ -872,6 +872,150 @@ func TestWaysOfEnergy(t *testing.T) {
 	}
 }
 
+// workersOf are the names that a function gives to what joins its workers.
+func workersOf(fn *ast.FuncDecl) map[string]bool {
+	names := map[string]bool{}
+	ast.Inspect(fn, func(n ast.Node) bool {
+		spec, ok := n.(*ast.ValueSpec)
+		if !ok {
+			return true
+		}
+		if kind, ok := spec.Type.(*ast.SelectorExpr); ok && nameOf(kind.X) == "sync" && kind.Sel.Name == "WaitGroup" {
+			for _, name := range spec.Names {
+				names[name.Name] = true
+			}
+		}
+		return true
+	})
+	return names
+}
+
+// startsAny tells whether a function starts another one beside itself.
+func startsAny(fn *ast.FuncDecl) bool {
+	found := false
+	ast.Inspect(fn, func(n ast.Node) bool {
+		_, isStart := n.(*ast.GoStmt)
+		method, isMethod := n.(*ast.SelectorExpr)
+		found = found || isStart || isMethod && method.Sel.Name == "Go"
+		return true
+	})
+	return found
+}
+
+// joinsAll tells whether a function waits for what it starts by a WaitGroup.
+func joinsAll(fn *ast.FuncDecl) bool {
+	workers := workersOf(fn)
+	found := false
+	ast.Inspect(fn, func(n ast.Node) bool {
+		method, ok := n.(*ast.SelectorExpr)
+		found = found || ok && workers[nameOf(method.X)] && method.Sel.Name == "Wait"
+		return true
+	})
+	return startsAny(fn) && found
+}
+
+// genericsIn are the names of a file's types that have type parameters.
+func genericsIn(f *ast.File) map[string]bool {
+	names := map[string]bool{}
+	ast.Inspect(f, func(n ast.Node) bool {
+		if spec, ok := n.(*ast.TypeSpec); ok && spec.TypeParams != nil {
+			names[spec.Name.Name] = true
+		}
+		return true
+	})
+	return names
+}
+
+// sumsOver tells whether a function is variadic and answers one of these types.
+func sumsOver(fn *ast.FuncDecl, generics map[string]bool) bool {
+	params := fn.Type.Params.List
+	if len(params) == 0 || fn.Type.Results == nil {
+		return false
+	}
+	_, isVariadic := params[len(params)-1].Type.(*ast.Ellipsis)
+	of, isGeneric := fn.Type.Results.List[0].Type.(*ast.IndexExpr)
+	return isVariadic && isGeneric && generics[nameOf(of.X)]
+}
+
+// spreads tells whether a function hands a whole list to one of these names.
+func spreads(fn *ast.FuncDecl, names map[string]bool) bool {
+	found := false
+	ast.Inspect(fn, func(n ast.Node) bool {
+		call, ok := n.(*ast.CallExpr)
+		found = found || ok && call.Ellipsis.IsValid() && callsOneOf(call, names)
+		return true
+	})
+	return found
+}
+
+func TestWaysOfTraffic(t *testing.T) {
+	f := parsedFile(t, token.NewFileSet(), "../impl/l14_traffic.go")
+	generics, sums := genericsIn(f), map[string]bool{}
+	for _, d := range f.Decls {
+		if fn, ok := d.(*ast.FuncDecl); ok {
+			sums[fn.Name.Name] = sumsOver(fn, generics)
+		}
+	}
+	for _, d := range f.Decls {
+		fn, ok := d.(*ast.FuncDecl)
+		if !ok {
+			continue
+		}
+		name := fn.Name.Name
+		if isTable := name == "FlightTable"; startsAny(fn) != isTable || joinsAll(fn) != isTable {
+			t.Errorf("%s: FlightTable alone makes its rows by goroutines that a WaitGroup joins", name)
+		}
+		if (name == "TripTicks" || name == "MeanUp") && !spreads(fn, sums) {
+			t.Errorf("%s: its sum is not variadic, over a generic type", name)
+		}
+	}
+}
+
+// answersNothing tells whether all that a function does is to answer a literal
+// without a value, as those do that are not built yet.
+func answersNothing(fn *ast.FuncDecl) bool {
+	if len(fn.Body.List) != 1 {
+		return len(fn.Body.List) == 0
+	}
+	answer, ok := fn.Body.List[0].(*ast.ReturnStmt)
+	if !ok || len(answer.Results) != 1 {
+		return ok
+	}
+	switch value := answer.Results[0].(type) {
+	case *ast.CompositeLit:
+		return len(value.Elts) == 0
+	case *ast.BasicLit:
+		return true
+	case *ast.Ident:
+		return value.Name == "nil" || value.Name == "false"
+	}
+	return false
+}
+
+// All functions that the document lists are built: 14 layers have some each.
+func TestNoFunctionIsEmpty(t *testing.T) {
+	paths, err := filepath.Glob("../impl/l*.go")
+	if err != nil || len(paths) != 14 {
+		t.Fatal("not 14 layers", paths, err)
+	}
+	for _, path := range paths {
+		listed := 0
+		for _, d := range parsedFile(t, token.NewFileSet(), path).Decls {
+			fn, ok := d.(*ast.FuncDecl)
+			if !ok || !fn.Name.IsExported() {
+				continue
+			}
+			listed++
+			if answersNothing(fn) {
+				t.Errorf("%s: %s is not built", path, fn.Name.Name)
+			}
+		}
+		if listed == 0 {
+			t.Errorf("%s has no function", path)
+		}
+	}
+}
+
 func TestProgramKeepsToItsLanguage(t *testing.T) {
 	paths, err := filepath.Glob("../impl/*.go")
 	if err != nil || len(paths) == 0 {
